@@ -6,7 +6,7 @@ import "newel/api"
 func (r *reader) str() {
 	from := r.at
 	r.at++
-	text := r.characters(from, '"', '"')
+	text := r.characters(from, from, '"', '"')
 	r.at++
 	r.add(String, text, from)
 }
@@ -15,7 +15,7 @@ func (r *reader) str() {
 func (r *reader) char() {
 	from := r.at
 	r.at++
-	text := r.characters(from, '\'', '\'')
+	text := r.characters(from, from, '\'', '\'')
 	if len(text) != 1 {
 		fail(from, api.ErrSyntax)
 	}
@@ -23,18 +23,18 @@ func (r *reader) char() {
 	r.add(Char, text, from)
 }
 
-// parts reads an interpolated string from the beginning of a Part on: up to its End, or up to a `${`, behind whose `}` ending calls it again.
-func (r *reader) parts() {
+// parts reads the interpolated string that begins at literal, from the beginning of a Part on: up to its End, or up to a `${`, behind whose `}` ending calls it again.
+func (r *reader) parts(literal int) {
 	for {
 		from := r.at
-		r.add(Part, r.characters(from, '"', '$'), from)
+		r.add(Part, r.characters(literal, from, '"', '$'), from)
 		if r.peek(0) == '"' {
 			r.add(End, "", r.at)
 			r.at++
 			return
 		}
 		if r.peek(1) == '{' {
-			r.push(2, true)
+			r.push(2, literal)
 			return
 		}
 		r.variable()
@@ -57,29 +57,34 @@ func (r *reader) variable() {
 	r.add(kind, text, from)
 }
 
-// characters reads the characters in front of the byte a or b, which is not read, of the token that begins at from; it returns the bytes that they stand for.
-func (r *reader) characters(from int, a, b byte) string {
+// characters reads the characters in front of the byte a or b, which is not read; it returns the bytes that they stand for. The literal and its token at hand begin at different places in an interpolated string: it is the literal that is not closed, and the token that has a wrong escape.
+func (r *reader) characters(literal, token int, a, b byte) string {
 	var out []byte
 	for {
-		switch c := r.peek(0); {
-		case c == a || c == b:
+		if c := r.peek(0); c == a || c == b {
 			return string(out)
-		case c < 32: // a line feed, a tab, or the end of the text
-			fail(from, api.ErrSyntax)
-		case c == '\\':
-			out = append(out, r.escape(from))
-		default:
-			out = append(out, c)
-			r.at++
 		}
+		c := r.next(literal)
+		if c == '\\' {
+			c = r.escape(literal, token)
+		}
+		out = append(out, c)
 	}
 }
 
-// escape reads an escape in the token that begins at from; it returns the byte that it stands for.
-func (r *reader) escape(from int) byte {
-	b := r.peek(1)
-	r.at += 2
-	switch b {
+// next reads a byte of the literal that begins at an offset, which is not closed if a line feed, a tab or the end of the text comes first.
+func (r *reader) next(literal int) byte {
+	b := r.peek(0)
+	if b < 32 {
+		fail(literal, api.ErrSyntax)
+	}
+	r.at++
+	return b
+}
+
+// escape reads what stands behind the backslash of an escape; it returns the byte that the escape stands for.
+func (r *reader) escape(literal, token int) byte {
+	switch b := r.next(literal); b {
 	case 'n':
 		return '\n'
 	case 't':
@@ -87,23 +92,23 @@ func (r *reader) escape(from int) byte {
 	case '\\', '\'', '"', '$':
 		return b
 	case 'x':
-		high, low := hexDigit(r.peek(0)), hexDigit(r.peek(1))
-		if high >= 0 && low >= 0 {
-			r.at += 2
-			return byte(high<<4 | low)
-		}
+		high := r.hexDigit(literal, token)
+		low := r.hexDigit(literal, token)
+		return high<<4 | low
 	}
-	fail(from, api.ErrSyntax)
+	fail(token, api.ErrSyntax)
 	return 0
 }
 
-// hexDigit returns the value of a digit 0 to 9 or a to f, or -1.
-func hexDigit(b byte) int {
+// hexDigit reads a digit 0 to 9 or a to f of an escape; it returns its value.
+func (r *reader) hexDigit(literal, token int) byte {
+	b := r.next(literal)
 	switch {
 	case '0' <= b && b <= '9':
-		return int(b - '0')
+		return b - '0'
 	case 'a' <= b && b <= 'f':
-		return int(b-'a') + 10
+		return b - 'a' + 10
 	}
-	return -1
+	fail(token, api.ErrSyntax)
+	return 0
 }

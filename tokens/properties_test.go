@@ -210,6 +210,27 @@ func TestOneLine(t *testing.T) {
 	}
 }
 
+// P1.1: the fault of an interpolated string that is not closed is at its Start, whatever stands in it and in front of it.
+func TestUnclosedStrings(t *testing.T) {
+	r := rand.New(rand.NewSource(7))
+	inside := []string{"a", " b ", "1", "\\n", "\\x41", "\\\"", "\\$", "{", "}", ")", "'", "// ", "/*", "$c", "$_1", "$this"}
+	ends := []string{"", "\n", "\n\"", "\t\"", "\\", "\\\n\"", "\\x", "\\x4\n"}
+	for range 5000 {
+		front := someText(r, 4, 2)
+		var s strings.Builder
+		for range r.Intn(6) {
+			if r.Intn(4) == 0 {
+				s.WriteString("${ " + someText(r, 4, 2) + " }")
+			} else {
+				s.WriteString(inside[r.Intn(len(inside))])
+			}
+		}
+		text := front + " s\"" + s.String() + ends[r.Intn(len(ends))]
+		l, f := Raw(text)
+		expectFault(t, "Raw of "+text, l, f, api.Fault{At: len(front) + 1, Code: api.ErrSyntax})
+	}
+}
+
 // P1: nothing panics, whatever the text; with a fault there is nothing else.
 func TestAnyText(t *testing.T) {
 	r := rand.New(rand.NewSource(5))

@@ -48,11 +48,14 @@ func inWord(b byte) bool {
 	return c == letter || c == digit
 }
 
+// noLiteral stands for the beginning of a literal where there is none.
+const noLiteral = -1
+
 // bracket is an open bracket.
 type bracket struct {
-	mark  string
-	at    int
-	parts bool // an interpolated string goes on behind the mark that closes it
+	mark    string
+	at      int
+	literal int // the beginning of the interpolated string that goes on behind the mark that closes it, or noLiteral
 }
 
 // reader divides a text into tokens.
@@ -216,7 +219,7 @@ func (r *reader) word() {
 	if kind == Name && r.peek(0) == '"' {
 		r.at++
 		r.add(Start, text, from)
-		r.parts()
+		r.parts(from)
 		return
 	}
 	r.add(kind, text, from)
@@ -289,15 +292,15 @@ func (r *reader) opening() {
 	if classOf(r.peek(0)) != opening {
 		n = 2
 	}
-	r.push(n, false)
+	r.push(n, noLiteral)
 }
 
-// push reads a mark of n bytes that opens a bracket.
-func (r *reader) push(n int, parts bool) {
+// push reads a mark of n bytes that opens a bracket, in the interpolated string that begins at literal, if there is one.
+func (r *reader) push(n, literal int) {
 	if len(r.open) == api.MaxNest {
 		fail(r.at, api.ErrDepth)
 	}
-	r.open = append(r.open, bracket{mark: r.text[r.at : r.at+n], at: r.at, parts: parts})
+	r.open = append(r.open, bracket{mark: r.text[r.at : r.at+n], at: r.at, literal: literal})
 	r.mark(n)
 }
 
@@ -307,11 +310,11 @@ func (r *reader) ending() {
 	if last < 0 || closing(r.open[last].mark) != r.text[r.at:r.at+1] {
 		fail(r.at, api.ErrSyntax)
 	}
-	parts := r.open[last].parts
+	literal := r.open[last].literal
 	r.open = r.open[:last]
 	r.mark(1)
-	if parts {
-		r.parts()
+	if literal != noLiteral {
+		r.parts(literal)
 	}
 }
 

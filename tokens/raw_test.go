@@ -143,8 +143,6 @@ func TestRawFaults(t *testing.T) {
 		{"a \"b", 2, api.ErrSyntax}, {"a \"b\n\"", 2, api.ErrSyntax}, {"\"a\tb\"", 0, api.ErrSyntax}, {"\"", 0, api.ErrSyntax}, {"a \"b\\", 2, api.ErrSyntax}, {"\"b\\\"", 0, api.ErrSyntax},
 		{"a 'b", 2, api.ErrSyntax}, {"'", 0, api.ErrSyntax}, {"'b\n'", 0, api.ErrSyntax}, {"'\t'", 0, api.ErrSyntax}, {"'\\'", 0, api.ErrSyntax},
 		{" /* a", 1, api.ErrSyntax}, {"/*/", 0, api.ErrSyntax}, {"/* a /* b */", 0, api.ErrSyntax}, {"a /* b /* c */\n", 2, api.ErrSyntax}, {"+/*", 1, api.ErrSyntax},
-		// Of an interpolated string, at the Part.
-		{"s\"", 2, api.ErrSyntax}, {"x s\"ab\n\"", 4, api.ErrSyntax}, {"s\"a$b c", 5, api.ErrSyntax}, {"s\"a${b}c\t\"", 7, api.ErrSyntax}, {"s\"a$b", 5, api.ErrSyntax},
 		// Escapes that are none.
 		{` "\q"`, 1, api.ErrSyntax}, {` "a\x4"`, 1, api.ErrSyntax}, {`"\x4G"`, 0, api.ErrSyntax}, {`"\xAB"`, 0, api.ErrSyntax}, {`"\x"`, 0, api.ErrSyntax}, {`'\0'`, 0, api.ErrSyntax}, {`'\{'`, 0, api.ErrSyntax}, {`s"a\ "`, 2, api.ErrSyntax}, {`s"$a\r"`, 4, api.ErrSyntax},
 		{"\"a\\\nb\"", 0, api.ErrSyntax},
@@ -167,6 +165,33 @@ func TestRawFaults(t *testing.T) {
 		expectFault(t, "Raw of "+c.text, l, f, api.Fault{At: c.at, Code: c.code})
 		l, f = Scan(c.text)
 		expectFault(t, "Scan of "+c.text, l, f, api.Fault{At: c.at, Code: c.code})
+	}
+}
+
+// The place of the fault of an interpolated string that is not closed is its Start.
+func TestRawUnclosedStrings(t *testing.T) {
+	for _, c := range []struct {
+		text string
+		at   int
+	}{
+		{`s"`, 0}, {`s"ab`, 0}, {"x s\"ab\n\"", 2}, {`s"a$b c`, 0}, {`s"a$b`, 0}, {`x s"a$b`, 2}, {"s\"\t\"", 0}, {"( s\"a", 2}, {"\n  name\"a\n", 3},
+		{"s\"a${b}c\t\"", 0}, {`s"a${b}`, 0}, {`s"a${b}${c}$d`, 0}, {"s\"a${\nb\n}c\nd\"", 0},
+		// The end comes within an escape.
+		{`s"a\"`, 0}, {`s"a\`, 0}, {`s"$a\`, 0}, {"s\"a\\\nb\"", 0}, {"s\"a\\\tb\"", 0}, {`s"a\x`, 0}, {`s"a\x4`, 0}, {"s\"a\\x4\n\"", 0},
+		// Of several strings, the one at hand.
+		{"s\"${f\"\n\"}\"", 4}, {`s"${f"a`, 4}, {`s"${f"a${b}c`, 4}, {`s"${f"a"}b`, 0}, {`x s"${f"a"}${g"b"} `, 2}, {`s"${f"a"}${g"b`, 11}, {`s"" s"`, 4}, {`s"${"a"}b`, 0}, {"s\"a\"\nf\"", 5},
+		// Other literals in an interpolated string, and what begins none.
+		{`s"${"}`, 4}, {`s"${'}"`, 4}, {`s "a`, 2}, {`_"a`, 1}, {`val"a`, 3}, {`s"${s}" "a`, 8},
+		// With an open `${`, the innermost open bracket.
+		{`s"${`, 2}, {`s"${"}"`, 2}, {`s"${f"a"`, 2}, {`s"${f"${a}"`, 2}, {`s"${f"${a`, 6}, {`s"${(f"a")`, 2}, {`s"${ [ f"a"`, 5}, {`s"a" ${`, 5},
+		// A fault that is met before the string ends.
+		{`s"a\q`, 2}, {`s"a\xg`, 2}, {`s"a\x4g`, 2}, {`s"$a\0`, 4}, {`s"a$`, 3}, {`s"a$1`, 3}, {`s"${1x`, 4},
+	} {
+		want := api.Fault{At: c.at, Code: api.ErrSyntax}
+		l, f := Raw(c.text)
+		expectFault(t, "Raw of "+c.text, l, f, want)
+		l, f = Scan(c.text)
+		expectFault(t, "Scan of "+c.text, l, f, want)
 	}
 }
 
