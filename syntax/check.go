@@ -197,6 +197,9 @@ func keepsRules(n Node) bool {
 		return n.Kids[4].Kind == SNone || n.Kids[2].Kind == SNone && n.Kids[3].Kind == SNone
 	case SExtension:
 		return !hasExtension(n.Kids[2:])
+	case SParent:
+		// Its Num tells `A()`, which has an empty list of arguments, from `A`, which has no list at all.
+		return n.Num == 1 || len(n.Kids) == 1
 	case XNew:
 		return len(n.Kids[0].Kids) > 0
 	case XApply:

@@ -159,7 +159,10 @@ func (m maker) lists(d int) Node {
 
 func (m maker) parents(d, least int) Node {
 	return node(SParents, "", 0, m.some(least, func() Node {
-		return node(SParent, "", m.r.Intn(2), with(m.some(0, func() Node { return m.expression(d - 1) }), m.aType(d-1))...)
+		if m.r.Intn(2) == 0 {
+			return node(SParent, "", 0, m.aType(d-1))
+		}
+		return node(SParent, "", 1, with(m.some(0, func() Node { return m.expression(d - 1) }), m.aType(d-1))...)
 	})...)
 }
 
