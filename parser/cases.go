@@ -69,7 +69,7 @@ func (p *parser) caseBody() syntax.Node {
 	if len(block.Kids) == 1 && !isDefinition(block.Kids[0]) {
 		return block.Kids[0]
 	}
-	return beginning(block)
+	return block
 }
 
 // endsCase reports whether the token i may stand behind the block that is the body of a case.

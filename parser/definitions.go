@@ -239,10 +239,15 @@ func (p *parser) parent() syntax.Node {
 	t := p.simpleType()
 	n := node(syntax.SParent, t.At, t)
 	if p.is("(") {
-		n.Num = 1
-		n.Kids = append(n.Kids, group(p, p.expr)...)
+		p.parentArgs(&n)
 	}
 	return n
+}
+
+// parentArgs reads the arguments of a parent.
+func (p *parser) parentArgs(parent *syntax.Node) {
+	parent.Num = 1
+	parent.Kids = append(parent.Kids, group(p, p.expr)...)
 }
 
 func (p *parser) def(mods syntax.Node) syntax.Node {

@@ -183,13 +183,12 @@ func (p *parser) enumerators() []syntax.Node {
 	return kids
 }
 
-// patternInParentheses reports whether the parentheses behind `for` are those of a pattern: a generator goes on behind them, and none stands inside of them.
+// patternInParentheses reports whether the parentheses behind `for` are those of a pattern: they do not begin with a line end, and no generator stands inside of them.
 func (p *parser) patternInParentheses() bool {
-	last := p.match[p.at]
-	if !p.isAt(last+1, "<-") && !p.isAt(last+1, "|") {
+	if p.isAt(p.at+1, ";") {
 		return false
 	}
-	for i := p.at; i < last; i++ {
+	for i := p.at; i < p.match[p.at]; i++ {
 		if p.isAt(i, "<-") {
 			return false
 		}

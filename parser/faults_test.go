@@ -61,7 +61,7 @@ func TestClassFaults(t *testing.T) {
 		"class A(private#)", "class A(private #private x: B)", "class A(val #val x: B)", "class A(val #var x: B)", "class A(val #private x: B)", "class A(#lazy x: B)",
 		"class A(x: B*, #)", "class A(x #= 1)", "class A(x: B = #)", "class A(x: => B #*)", "class A(using x#)", "class A(using #using x: B)", "class A(x: B)#[C]",
 		"class A #class B", "class A #B", "class A {} #{}", "class A {} #x", "class A {} #: B",
-		"class A extends #", "class A extends #{}", "class A extends #1", "class A extends B #extends C", "class A extends B with #", "class A extends B, #with C", "class A #with B",
+		"class A extends #", "class A extends #{}", "class A extends B.#+", "class A(x: B.#*)", "class A extends #1", "class A extends B #extends C", "class A extends B with #", "class A extends B, #with C", "class A #with B",
 		"class A extends B(#,)", "class A extends B(x,#)", "class A extends B()#()", "class A extends B #=> C", "class A extends B #& C", "class A extends B(#using x)",
 		"class A: #", "class A: #B", "class A:\n#val x", "class A { val x #val y }", "class A { #, }", "class A { val x#, y }", "class A { case #B }",
 		"object A#[B]", "object A#(x: B)", "case object A#()", "trait A #class",
@@ -110,9 +110,10 @@ func TestExprFaults(t *testing.T) {
 		"#", "#val x", "#case", "#type", "#,", "#*a", "#.a", "#=", "#=> a", "#@", "a #b", "a\n#b", "a; #b", "a #@",
 		"if #", "if a #b", "if a then#", "if (a)#", "if (a) then#", "if (#) b", "if (a#, b) c", "if (a) b else#", "if (a) then #then b", "if (a) #do b", "if (a) #&& b then c", "if a #do b", "if (a) b else c #else d", "if (a)\n#b", "if (a) b; #c",
 		"while #", "while a #b", "while a #then b", "while (a)#", "while (a) do#", "while (a) #then b",
-		"for #", "for (#) a", "for {#} a", "for (x#) a", "for (x #= a) b", "for (#if a) b", "for { x <- a #y <- b } c", "for { x <- #} c", "for { x <- a; 1 #} c", "for { x <- a; y #} c", "for x <- a #b", "for x <- a; do#", "for (x <- a)#", "for (x <- a) yield#", "for (x <- a)\n#b", "for { x <- a } #then b", "for (x <- a) #| b", "for (x <- a) #<- b", "for x #do a", "for (x <- a; #, ) b", "for { x <- a if #} b",
+		"for #", "for () #a", "for {#} a", "for (x) #a", "for (;#) a", "for (; x#) a", "for (x) | y #a", "for (()) #(a)", "for (x #= a) b", "for (#if a) b", "for { x <- a #y <- b } c", "for { x <- #} c", "for { x <- a; 1 #} c", "for { x <- a; y #} c", "for x <- a #b", "for x <- a; do#", "for (x <- a)#", "for (x <- a) yield#", "for (x <- a)\n#b", "for { x <- a } #then b", "for (x <- a) #| b", "for (x <- a) #<- b", "for x #do a", "for (x <- a; #, ) b", "for { x <- a if #} b",
 		"try #", "try a catch #", "try a catch #a", "try a catch {#}", "try a catch { #a }", "try a finally#", "try a finally b #catch { case c => d }", "try a finally b #finally c", "try a #else b", "try a; #b",
 		"throw #", "throw #;", "return #*a", "return #val x", "return a #b", "return _#", "return #yield",
+		"(if (a) b; #c)", "f(try a; #b)", "(if (a) b else c#; d)", "(try a catch { case b => c }; #d)", "(try a finally b#; c)", "while if (a) b; ; #then c", "if (if (a) b; else c) d; #e",
 		"a => #", "_ #", "_ #+ a", "(a#, b)", "() + #", "(a, #1) => b", "(a,#) => b", "(a: A #=> B) => c", "(a #b) => c", "(a#.b) => c", "(a: #) => b", "a + b #=> c", "a.b #=> c", "1 #=> a", "(#using a) => b",
 	)
 }
@@ -122,7 +123,7 @@ func TestOperationFaults(t *testing.T) {
 		"a +#", "a + #*b", "a + #if (b) c", "a + x #=> y", "a = #", "a += #", "a + #return", "- #", "-#", "! #while (a) b", "a match #b", "a match {#}", "a match { #b }", "a match { case a => b } #+ c", "a match { case a => b }#.c", "a match { case a => b } #(c)",
 		"a +: b #+ c", "a + b #+: c", "a +: b * c #- d", "a * b + c #-: d", "a :: b #:> c", "a :> b #:: c", "a - b *: c #+: d", "a < (b +: c #+ d)",
 		"a.#", "a.#type", "a.#this", "a.+ #b", "a.#1", "a[#]", "a[A,#]", "a[A #B]", "a[#_]", "a[#1]", "f(#,)", "f(a,#)", "f(a #b)", "f(a#; b)", "f(using#,)", "f(#val x)", "f(a#: A)", "f(x = #)", "f(a, #using b)",
-		"super #", "super#(a)", "super.#", "super[#]", "super[A #B].c", "super[A]#", "super[A#[B]].c", "super.#type", "new #", "new #1", "new A with #", "new A#, B", "new A with B with #", "new A: #", "new A: #B", "(new A: #)", "f(new A: #B)", "new A(): #B", "(new A: B #: C)",
+		"super #", "super#(a)", "super.#", "super[#]", "super[A #B].c", "super[A]#", "super[A#[B]].c", "super.#type", "new #", "new #1", "new A.+ #with B", "new A(using x) #with B", "new A(using x)#: B", "new A(using#;)", "new A.+ {}#: B", "new this.#+", "new this#", "new A.#", "new A.#(x)", "new A.+.#", "new A[B.#+]", "new (A.#+)", "new A.type.#type", "new A {}.#type", "new A.#this", "new A with #", "new A#, B", "new A with B with #", "new A: #", "new A: #B", "(new A: #)", "f(new A: #B)", "new A(): #B", "(new A: B #: C)",
 		"(a: #)", "(a: A#, b)", "(a: A #: B)", "(a#; b)", "(#;)", "(#:A)", "{ #, }", "{ a #b }", "{ a#, b }", "{ case #a => b }", "'{ a #b }", "${ a #b }", "{ val #}",
 		"s\"$#if\"", "s\"${#}\"", "s\"${a #b}\"", "s\"${a#; b}\"", "s\"a\" #b",
 	)
@@ -138,7 +139,7 @@ func TestCaseFaults(t *testing.T) {
 
 func TestPatternFaults(t *testing.T) {
 	expectSyntax(t, Pattern,
-		"#", "#+", "#this", "#class", "#[", "#@ a", "_ #a", "_ #@ a", "_: #", "_: #_", "_: A #=> B", "_: A #match { case B => C }", "_: A | #", "_: A | #+",
+		"#", "#+", "#this", "#class", "#[", "#@ a", "_ #a", "_ #@ a", "_: #", "_: #_", "_: A #=> B", "_: A #match { case B => C }", "_: A | #", "_: A | #+", "_: A | (B => #1)", "_: A | (B | 1) #& C", "_: A | (B => C | #1)", "_: A | ((B#, C))", "_: A | () #=> B", "_: A | (_) #=> B", "_: A | ([B] =>> C #=>> D)", "_: A | B & C #@ D", "_: A | B & C#(D)", "_: A | B[C]#: D", "_: A | (B)#: C", "_: A | B.type#(C)", "_: A | b.C #@ D", "_: A | B @ #", "_: A | (1 #& B)", "_: A | B(C #& D)", "_: A | B & #1", "_: A | (b: #1)", "_: A | (B) | (C => #_)", "_: A | (1) | (C #=> D)",
 		"-#", "- #a", "- #-1", "- #'a'", "-#(1)", "1 #: A", "1#(a)", "1 #.a", "\"a\" #@ b", "()#()", "(#,)", "(a#, b)", "(a)#(b)", "(a #b)", "(a) #@ b", "(a)#: A",
 		"a #b", "a: #", "a: A#: B", "a: A #@ b", "a @ #", "a @ #@", "a.#", "a.#type", "a.b #@ c", "a.b#: C", "a(#,)", "a(b,#)", "a(b #c)", "a(b)#(c)", "a(b)#.c", "a(b) #@ c", "a | #| b", "a | #| b", "a |#", "a#[B]", "a(b #= c)", "a(#using b)",
 	)
@@ -181,9 +182,9 @@ func TestCheckFaults(t *testing.T) {
 		{Expr, "a(" + strings.Repeat("b, ", 200) + "b)", 0, api.ErrForm},
 		{Expr, "{ " + strings.Repeat("b;", 201) + " }", 0, api.ErrForm},
 		{Parse, ";" + strings.Repeat("val b;", 201), 0, api.ErrForm},
-		{Type, "A & (B[" + strings.Repeat("A, ", 200) + "A])", 5, api.ErrForm},
+		{Type, "A & (B[" + strings.Repeat("A, ", 200) + "A])", 4, api.ErrForm},
 		{Expr, "x" + strings.Repeat(".y", api.MaxNest), 0, api.ErrDepth},
-		{Expr, "((x" + strings.Repeat(".y", api.MaxNest) + "))", 2, api.ErrDepth},
+		{Expr, " ((x" + strings.Repeat(".y", api.MaxNest) + "))", 1, api.ErrDepth},
 		{Expr, " " + strings.Repeat("- ", api.MaxNest) + "x", 1, api.ErrDepth},
 		{Parse, ";val x = " + strings.Repeat("- ", api.MaxNest-2) + "x", 0, api.ErrDepth},
 		{Expr, "a" + strings.Repeat(" + a", api.MaxNest), 0, api.ErrDepth},
@@ -218,11 +219,13 @@ func TestDepth(t *testing.T) {
 		{Expr, "throw ", "x", 101, 0},
 		{Expr, "return ", "x", 101, 0},
 		{Expr, "try ", "x", 101, 0},
-		{Expr, "if (x) ", "x", 99, 4}, // the condition is nested in one more, and it is a prefix, too
-		{Expr, "while (x) ", "x", 99, 7},
-		{Expr, "x = ", "x", 100, 0}, // the left side is a prefix
-		{Expr, "- ", "x", 100, 0},   // the first one is a prefix in the whole
-		{Expr, "x :: ", "x", 100, 0},
+		{Expr, "if (x) ", "x", 100, 4}, // the condition is nested in one more
+		{Expr, "while (x) ", "x", 100, 7},
+		{Expr, "x = ", "x", 101, 0}, // the left side is no other expression
+		{Expr, "- ", "x", 101, 0},
+		{Expr, "x :: ", "x", 101, 0},
+		{Expr, "x + x :: ", "x", 100, 4}, // an operand in the one on the left, which is nested in 100
+		{Expr, "x :: - ", "x", 100, 0},   // what is behind the minus is nested in the right operand
 		{Type, "A => ", "A", 101, 0},
 		{Type, "[A] =>> ", "A", 101, 0},
 		{Type, "[A <: B] =>> ", "A", 100, 6}, // a bound is a type
@@ -238,30 +241,35 @@ func TestDepth(t *testing.T) {
 	}
 }
 
-// TestDepthInBrackets is about texts whose trees are not too deep.
+// TestDepthInBrackets is about texts whose trees are not too deep. Parentheses stand inside of a text that is repeated, and `x` inside of them.
 func TestDepthInBrackets(t *testing.T) {
 	for _, c := range []struct {
-		read      entry
 		text, end string
-		most      int // how many times the text may stand there
-		at        int // of the fault, if it stands there once more
+		times     int
+		most      int // parentheses that may stand there
 	}{
-		{Expr, "(", ")", 49, 50},  // an expression, and a prefix, in each
-		{Expr, "{ ", "}", 33, 68}, // a statement, an expression and a prefix in each
-		{Expr, "f(", ")", 49, 100},
-		{Expr, "(- ", ")", 33, 100},   // an expression and two prefixes
-		{Expr, "(x + ", ")", 33, 166}, // an expression, a right operand and a prefix in each
+		{"{", "}", 45, 10},      // a statement and an expression in each
+		{"(- ", ")", 45, 10},    // what is behind the operator is one more expression
+		{"(x + ", ")", 45, 10},  // and the right operand
+		{"(x :: ", ")", 45, 10}, // also of an operator that associates to the right
+		{"(x + - ", ")", 31, 7},
+		{"(x + (x) * ", ")", 31, 7}, // a right operand in the other one
+		{"{ x => (", ")}", 24, 4},
+		{"(- x + ", ")", 45, 10},
+		{"(-(x) + x * x + ", ")", 45, 10}, // only the last operand holds what follows
+		{"{ 1; ", "}", 45, 10},
 	} {
-		nest := func(times int) string {
-			return strings.Repeat(c.text, times) + "x" + strings.Repeat(c.end, times)
+		nest := func(parens int) string {
+			inner := strings.Repeat("(", parens) + "x" + strings.Repeat(")", parens)
+			return strings.Repeat(c.text, c.times) + inner + strings.Repeat(c.end, c.times)
 		}
-		if _, f := c.read(nest(c.most)); f.Code != api.OK {
-			t.Errorf("%q, %d times: %v", c.text, c.most, f)
+		if _, f := Expr(nest(c.most)); f.Code != api.OK {
+			t.Errorf("%q, %d times: %v", c.text, c.times, f)
 		}
-		expectFault(t, c.read, nest(c.most+1), api.Fault{At: c.at, Code: api.ErrDepth})
+		expectFault(t, Expr, nest(c.most+1), api.Fault{At: c.times*len(c.text) + c.most + 1, Code: api.ErrDepth})
 	}
 	most := api.MaxNest - 1 // as layer 1 permits
-	for _, read := range []entry{Type, Pattern} {
+	for _, read := range []entry{Expr, Type, Pattern} {
 		if _, f := read(strings.Repeat("(", most) + "X" + strings.Repeat(")", most)); f.Code != api.OK {
 			t.Errorf("the most parentheses: %v", f)
 		}

@@ -3,6 +3,7 @@ package parser
 import (
 	"strconv"
 
+	"newel/api"
 	"newel/syntax"
 	"newel/tokens"
 )
@@ -61,17 +62,14 @@ func (p *parser) rightOperand(rank int, isRight bool) syntax.Node {
 	})
 }
 
+// prefix reads an operand. What stands behind a prefix operator is an expression in another one.
 func (p *parser) prefix() syntax.Node {
-	return nested(p, p.plainPrefix)
-}
-
-func (p *parser) plainPrefix() syntax.Node {
 	t := p.token()
 	if !isPrefix(t) {
 		return p.simple()
 	}
 	p.at++
-	operand := p.prefix()
+	operand := nested(p, p.prefix)
 	return named(syntax.XPrefix, t.At, t.Text, operand)
 }
 
@@ -221,17 +219,34 @@ func (p *parser) superMember(at int) syntax.Node {
 // instance reads what stands behind `new`.
 func (p *parser) instance(at int) syntax.Node {
 	parents := p.empty(syntax.SParents)
-	parents.Kids = list(p, p.parent, "with")
-	parents = beginning(parents)
+	parents.Kids = list(p, p.instanceParent, "with")
 	body := p.empty(syntax.SNone)
 	switch {
 	case p.is("{") || p.is(":") && p.list[p.at+1].Kind == tokens.Indent:
 		body = p.body()
 	case p.is(":"):
-		// It may stand in front of the type of an expression in parentheses.
-		p.colon = p.at
+		// A body could begin here, or the type of an expression in parentheses.
+		p.remember(api.Fault{At: p.list[p.at+1].At, Code: api.ErrSyntax})
 	}
 	return node(syntax.XNew, at, parents, body)
+}
+
+// instanceParent reads a parent of a new object. What cannot be in one may be a selection from the object, or its application.
+func (p *parser) instanceParent() syntax.Node {
+	t := p.appliedType(p.instancePoint)
+	n := node(syntax.SParent, t.At, t)
+	if p.is("(") && !p.isAt(p.at+1, "using") {
+		p.parentArgs(&n)
+	}
+	return n
+}
+
+// instancePoint goes on behind the point of a path in the type of a new object. A point in front of an Op selects from this.
+func (p *parser) instancePoint() bool {
+	if p.is(".") && p.list[p.at+1].Kind == tokens.Op {
+		return false
+	}
+	return p.skip(".")
 }
 
 // markAtom reads an atom that begins with a mark, but for a block.
@@ -256,6 +271,7 @@ func (p *parser) parentheses() syntax.Node {
 	if p.skip(":") {
 		n = node(syntax.XTyped, at, n, p.typ())
 	}
+	n.At = at
 	p.need(")")
 	return n
 }
@@ -267,7 +283,7 @@ func (p *parser) code(kind int) syntax.Node {
 	block := p.empty(syntax.XBlock)
 	block.Kids = lines(p, p.statement, p.closes)
 	p.close()
-	return node(kind, at, beginning(block))
+	return node(kind, at, block)
 }
 
 // block reads a block in braces or by indentation.

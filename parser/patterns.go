@@ -38,6 +38,7 @@ func (p *parser) onePattern() syntax.Node {
 			return node(syntax.PLiteral, t.At, node(syntax.XUnit, t.At))
 		}
 		n := p.pattern()
+		n.At = t.At
 		p.need(")")
 		return n
 	}

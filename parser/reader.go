@@ -14,11 +14,12 @@ type parser struct {
 	depth int   // how many types, expressions, patterns and statements are being read
 
 	arrow int // the index of the `=>` behind the guard that is being read, or -1
-	colon int // the index of the last `:` that could have begun a body, but does not, or -1
+
+	tried api.Fault // the last one from left to right of the ways to read the tokens that have failed
 }
 
 func newParser(list []tokens.Token) *parser {
-	p := &parser{list: list, match: make([]int, len(list)), arrow: -1, colon: -1}
+	p := &parser{list: list, match: make([]int, len(list)), arrow: -1}
 	var open []int
 	for i, t := range list {
 		switch {
@@ -45,17 +46,21 @@ func closesBracket(mark string) bool {
 	return mark == ")" || mark == "]" || mark == "}"
 }
 
-// fail leaves with a fault at the token that is read next.
+// fail leaves with a fault at the token that is read next, or with that of another way to read the same tokens, if this led further.
 func (p *parser) fail(code api.Errno) {
-	panic(api.Fault{At: p.token().At, Code: code})
+	p.remember(api.Fault{At: p.token().At, Code: code})
+	panic(p.tried)
+}
+
+// remember keeps a fault of one way to read the tokens, while there is another one, unless one led further.
+func (p *parser) remember(f api.Fault) {
+	if f.At > p.tried.At || f.At == p.tried.At && p.tried.Code != api.ErrDepth {
+		p.tried = f
+	}
 }
 
 // wrong leaves, as no rule goes on at the token that is read next. It returns nothing, but looks like a rule.
 func (p *parser) wrong() syntax.Node {
-	if p.at == p.colon {
-		// The rule of bodies goes on at the `:`, but not behind it.
-		p.at++
-	}
 	p.fail(api.ErrSyntax)
 	return syntax.Node{}
 }
@@ -192,6 +197,8 @@ func (p *parser) skipLines() bool {
 func (p *parser) skipBehindLines(key string) bool {
 	i := p.behindLines()
 	if !p.isAt(i, key) {
+		// This rule would have gone on at the line ends, which may be those of another one.
+		p.remember(api.Fault{At: p.list[i].At, Code: api.ErrSyntax})
 		return false
 	}
 	p.at = i + 1
@@ -267,14 +274,6 @@ func node(kind, at int, kids ...syntax.Node) syntax.Node {
 // named returns a node with a Text.
 func named(kind, at int, text string, kids ...syntax.Node) syntax.Node {
 	return syntax.Node{Kind: kind, Text: text, Kids: kids, At: at}
-}
-
-// beginning returns a node that has the At of the node that it begins with, if it has kids.
-func beginning(n syntax.Node) syntax.Node {
-	if len(n.Kids) > 0 {
-		n.At = n.Kids[0].At
-	}
-	return n
 }
 
 // empty returns a node for what is left out here.

@@ -1,8 +1,8 @@
 package parser
 
 import (
+	"newel/api"
 	"newel/syntax"
-	"newel/tokens"
 )
 
 func (p *parser) typ() syntax.Node {
@@ -61,40 +61,43 @@ func (p *parser) typeCase() syntax.Node {
 }
 
 func (p *parser) orType() syntax.Node {
-	return p.alternatives(func() bool { return true })
-}
-
-// patternType reads the type in a pattern, behind which other patterns may stand.
-func (p *parser) patternType() syntax.Node {
-	return p.alternatives(func() bool { return !p.onlyPattern(p.at + 1) })
-}
-
-// alternatives reads a union, as long as what stands behind its operators is a type.
-func (p *parser) alternatives(isType func() bool) syntax.Node {
 	n := p.andType()
-	for p.is("|") && isType() {
-		p.at++
+	for p.skip("|") {
 		right := p.andType()
 		n = node(syntax.TOr, n.At, n, right)
 	}
 	return n
 }
 
-// onlyPattern reports whether the tokens from i on begin a pattern and no type.
-func (p *parser) onlyPattern(i int) bool {
-	for p.isAt(i, "(") {
-		i++
+// patternType reads the type in a pattern. It goes on behind a `|` if a type stands there, and no other pattern.
+func (p *parser) patternType() syntax.Node {
+	n := p.andType()
+	for p.is("|") {
+		right, ok := p.alternative()
+		if !ok {
+			break
+		}
+		n = node(syntax.TOr, n.At, n, right)
 	}
-	if p.isAt(i, "this") {
-		return false
+	return n
+}
+
+// alternative reads a `|` and a type. If no type stands there, it reads nothing: there may be a pattern.
+func (p *parser) alternative() (n syntax.Node, ok bool) {
+	at, depth := p.at, p.depth
+	defer func() {
+		if _, isFault := recover().(api.Fault); isFault {
+			p.at, p.depth = at, depth
+			n, ok = syntax.Node{}, false
+		}
+	}()
+	p.need("|")
+	n = p.andType()
+	if p.is(":") || p.is("@") || p.is("(") {
+		// These go on behind the names of patterns, but not behind a type in one.
+		p.wrong()
 	}
-	if p.list[i].Kind != tokens.Name {
-		return true
-	}
-	for p.isAt(i+1, ".") && p.list[i+2].Kind == tokens.Name {
-		i += 2
-	}
-	return p.isAt(i+1, ":") || p.isAt(i+1, "@") || p.isAt(i+1, "(")
+	return n, true
 }
 
 func (p *parser) andType() syntax.Node {
@@ -107,7 +110,17 @@ func (p *parser) andType() syntax.Node {
 }
 
 func (p *parser) simpleType() syntax.Node {
-	n := p.plainSimpleType()
+	return p.appliedType(p.pathPoint)
+}
+
+// pathPoint goes on behind the point of a path, if one stands here.
+func (p *parser) pathPoint() bool {
+	return p.skip(".")
+}
+
+// appliedType reads a type in parentheses, a name or a path, with arguments. The function goes on behind a point of the path.
+func (p *parser) appliedType(point func() bool) syntax.Node {
+	n := p.plainSimpleType(point)
 	for p.is("[") {
 		args := some(p, p.typeArg)
 		n = node(syntax.TApply, n.At, append([]syntax.Node{n}, args...)...)
@@ -115,30 +128,30 @@ func (p *parser) simpleType() syntax.Node {
 	return n
 }
 
-// plainSimpleType reads a type in parentheses, a name or a path.
-func (p *parser) plainSimpleType() syntax.Node {
+func (p *parser) plainSimpleType(point func() bool) syntax.Node {
 	at := p.token().At
 	if p.skip("(") {
 		n := p.typ()
+		n.At = at
 		p.need(")")
 		return n
 	}
 	if p.skip("this") {
 		p.need(".")
-		return p.memberType(node(syntax.XThis, at))
+		return p.memberType(node(syntax.XThis, at), point)
 	}
 	name := p.name()
-	if p.skip(".") {
-		return p.memberType(named(syntax.XName, at, name))
+	if point() {
+		return p.memberType(named(syntax.XName, at, name), point)
 	}
 	return named(syntax.TName, at, name)
 }
 
 // memberType reads what stands behind a path and a point: a name, more of the path, or `type`.
-func (p *parser) memberType(path syntax.Node) syntax.Node {
+func (p *parser) memberType(path syntax.Node, point func() bool) syntax.Node {
 	for !p.skip("type") {
 		name := p.name()
-		if !p.skip(".") {
+		if !point() {
 			return named(syntax.TSelect, path.At, name, path)
 		}
 		path = named(syntax.XSelect, path.At, name, path)
