@@ -25,10 +25,10 @@ func (m *maker) one(n int) bool { return m.r.Intn(n) == 0 }
 
 func (m *maker) pick(l ...string) string { return l[m.r.Intn(len(l))] }
 
-// ends reports whether only something without parts may be made with d levels.
+// ends reports whether something without parts is made: with d levels only this may be, and otherwise it is, sometimes.
 func (m *maker) ends(d int) bool {
 	m.left--
-	return d <= 1 || m.left < 0
+	return d <= 1 || m.left < 0 || m.one(8)
 }
 
 func (m *maker) name() string {
