@@ -51,22 +51,19 @@ func (n *normalizer) normal(t api.Type) (api.Type, api.Errno) {
 	return made, e
 }
 
-// rewritten returns the normal form of a type whose Args are normal.
+// rewritten returns the normal form of a type whose Args are normal. Only a TAnd and a TOr may have any number of them, as whether they have too many must not depend on some that stand twice.
 func (n *normalizer) rewritten(t api.Type) (api.Type, api.Errno) {
-	if !keepsNumber(t) {
-		return t, api.OK
-	}
-	switch t.Kind {
-	case api.TApply:
-		return n.applied(t)
-	case api.TAnd:
+	switch {
+	case t.Kind == api.TAnd:
 		return n.met(t.Args)
-	case api.TOr:
+	case t.Kind == api.TOr:
 		return joined(t.Args), api.OK
-	case api.TWild:
-		if Equal(t.Args[0], t.Args[1]) {
-			return t.Args[0], api.OK
-		}
+	case !keepsNumber(t):
+		return t, api.OK
+	case t.Kind == api.TApply:
+		return n.applied(t)
+	case t.Kind == api.TWild && Equal(t.Args[0], t.Args[1]):
+		return t.Args[0], api.OK
 	}
 	return t, api.OK
 }
@@ -193,46 +190,7 @@ func joined(args []api.Type) api.Type {
 		return api.Type{Kind: api.TAny}
 	}
 	args = slices.DeleteFunc(args, func(t api.Type) bool { return t.Kind == api.TNothing })
-	args = ordered(args)
-	for i := 0; i < len(args); {
-		if isAbsorbed(args, i) {
-			args = slices.Delete(args, i, i+1)
-		} else {
-			i++
-		}
-	}
-	return composed(api.TOr, api.TNothing, args)
-}
-
-// isAbsorbed reports whether another type of a list absorbs the one with an index.
-func isAbsorbed(list []api.Type, index int) bool {
-	for i, t := range list {
-		if i != index && absorbs(t, list[index]) {
-			return true
-		}
-	}
-	return false
-}
-
-// absorbs reports whether each part of a type stands for a part of another one.
-func absorbs(t, other api.Type) bool {
-	parts := partsOf(other)
-	hasNull := slices.ContainsFunc(parts, func(p api.Type) bool { return p.Kind == api.TNull })
-	for _, part := range partsOf(t) {
-		isPart := slices.ContainsFunc(parts, func(p api.Type) bool { return Equal(p, part) })
-		if !isPart && !(hasNull && isReference(part)) {
-			return false
-		}
-	}
-	return true
-}
-
-// partsOf returns the Args of a TAnd, and any other type alone.
-func partsOf(t api.Type) []api.Type {
-	if t.Kind == api.TAnd {
-		return t.Args
-	}
-	return []api.Type{t}
+	return composed(api.TOr, api.TNothing, unabsorbed(ordered(args)))
 }
 
 // ordered returns types in increasing order, each once. It changes the list.

@@ -152,27 +152,33 @@ func TestNormalRaw(t *testing.T) {
 		{wild(redundant, intT), intT},
 		{withArgs(wild(intT, intT), redundant), withArgs(wild(intT, intT), intT)},
 		{withArgs(wild(intT, intT), intT, intT, intT), withArgs(wild(intT, intT), intT, intT, intT)},
-		// TAnd and TOr with another number of Args.
-		{and(), and()},
-		{or(), or()},
-		{and(redundant), and(intT)},
-		{or(redundant), or(intT)},
-		{and(anyT), and(anyT)},
-		{or(nothingT), or(nothingT)},
-		{and(append(times(20, p), redundant)...), and(append(times(20, p), intT)...)},
-		{or(append(times(20, p), redundant)...), or(append(times(20, p), intT)...)},
+		// TAnd and TOr with any number of Args.
+		{and(), anyT},
+		{or(), nothingT},
+		{and(redundant), intT},
+		{or(redundant), intT},
+		{and(anyT), anyT},
+		{or(nothingT), nothingT},
+		{and(append(times(20, p), redundant)...), and(intT, p)},
+		{or(append(times(20, p), redundant)...), or(intT, p)},
 		{and(append(times(19, p), redundant)...), and(intT, p)},
 		{or(append(times(19, p), redundant)...), or(intT, p)},
-		{array(and(or(p, q))), array(and(or(p, q)))},
-		// Those are a part of what is around them.
+		{and(append(params(0, 21), redundant)...), and(append([]api.Type{intT}, params(0, 21)...)...)},
+		{or(append(params(0, 21), redundant)...), or(append([]api.Type{intT}, params(0, 21)...)...)},
+		{or(append(params(0, 21), nullT, and(p, intT), and(nullT, param(30)), and(stringT, param(30)))...), or(append(append([]api.Type{nullT}, params(0, 21)...), and(stringT, param(30)))...)},
+		{array(and(or(p, q))), array(or(p, q))},
+		{fun(and(or(intT)), or(and(stringT))), fun(intT, stringT)},
 		{and(p, and(q)), and(p, q)},
 		{or(p, or(q)), or(p, q)},
 		{and(p, and()), p},
 		{or(p, or()), p},
 		{and(p, or(q)), and(p, q)},
 		{and(p, or()), nothingT},
+		{or(p, and()), anyT},
 		{and(p, and(or(p, q))), p},
-		{or(and(p), q), or(q, and(p))},
+		{or(and(p), q), or(p, q)},
+		{wild(or(p), and(p)), p},
+		{apply(and(lambda(1, bound(0, 0))), intT), intT},
 		// TApply with another number of Args, or of another TLambda.
 		{apply(lambda(1, bound(0, 0))), apply(lambda(1, bound(0, 0)))},
 		{apply(lambda(0, redundant)), apply(lambda(0, intT))},
@@ -342,6 +348,39 @@ func absorbed(parts int) api.Type {
 		list = append(list, and(q, array(param(i))))
 	}
 	return and(or(p, q), union(list))
+}
+
+// TestManyParts has unions of many intersections of many types: to compare each two of them part by part would take minutes.
+func TestManyParts(t *testing.T) {
+	many := func(kind, from, n int) api.Type { return api.Type{Kind: kind, Args: params(from, n)} }
+	for _, first := range []int{0, 5000} { // whether the Args in which the TAnds differ are the least or the greatest ones
+		got, e := Normal(and(many(api.TOr, first, 900), many(api.TAnd, 2000, 1000)))
+		if e != api.ErrLimit || !same(got, api.Type{}) {
+			t.Errorf("Normal = %.100s, %v; want %v", words(got), e, api.ErrLimit)
+		}
+		all := many(api.TAnd, 2000, 900)
+		got, e = Normal(and(or(param(2000), many(api.TOr, first, 900)), all))
+		if e != api.OK || !same(got, all) {
+			t.Errorf("Normal = %.100s, %v; want the TAnd of 900 types", words(got), e)
+		}
+	}
+}
+
+// TestNullAmongMany has null as a part in unions of any number of types.
+func TestNullAmongMany(t *testing.T) {
+	q, r, s := param(300), param(301), param(302)
+	onlyNull, strings := and(nullT, q), and(stringT, q)
+	for n := range 140 {
+		some := params(0, n)
+		got, e := Normal(or(append(some, onlyNull, strings)...))
+		if want := or(append(some, strings)...); e != api.OK || n > 0 && !same(got, want) {
+			t.Fatalf("Normal of a union with %d others = %s, %v", n, words(got), e)
+		}
+		all := or(append(some, onlyNull, and(q, r), and(s, array(intT)))...)
+		if got, e := Normal(all); e != api.OK || !same(got, all) {
+			t.Fatalf("Normal of a union with %d others = %s, %v; nothing is absorbed", n, words(got), e)
+		}
+	}
 }
 
 // normalForm is another way to find the normal form: by sets of parts. It is false where there are too many.
@@ -516,8 +555,15 @@ func (m maker) logical(depth int) api.Type {
 		return apply(lambda(1, and(bound(0, 0), m.logical(depth))), m.logical(depth))
 	}
 	t := api.Type{Kind: api.TAnd + m.Intn(2)}
-	for range 2 + m.Intn(3) {
+	count := 2 + m.Intn(3)
+	if m.sometimes(10) {
+		count = m.Intn(2)
+	}
+	for range count {
 		t.Args = append(t.Args, m.logical(depth))
+	}
+	for m.sometimes(40) {
+		t.Args = append(t.Args, slices.Concat(t.Args, t.Args, t.Args)...)
 	}
 	return t
 }
@@ -594,13 +640,36 @@ func (m maker) mixed(t api.Type) api.Type {
 		args[i] = m.mixed(args[i])
 	}
 	if t.Kind == api.TAnd || t.Kind == api.TOr {
-		if m.sometimes(2) && len(args) < 20 {
+		if m.sometimes(2) && len(args) > 0 {
 			args = append(args, args[m.Intn(len(args))])
+		}
+		if m.sometimes(10) {
+			args = append(args, args...)
 		}
 		m.Shuffle(len(args), func(i, j int) { args[i], args[j] = args[j], args[i] })
 	}
 	t.Args = args
 	return t
+}
+
+// TestPartsTwice has Args of which as many as a TAnd or TOr may have, or only one, stand twice.
+func TestPartsTwice(t *testing.T) {
+	for _, kind := range []int{api.TAnd, api.TOr} {
+		for _, n := range []int{1, 2, 19, 20, 40} {
+			list := params(0, n)
+			back := slices.Clone(list)
+			slices.Reverse(back)
+			want := api.Type{Kind: kind, Args: list}
+			if n == 1 {
+				want = list[0]
+			}
+			for _, args := range [][]api.Type{list, back, slices.Concat(list, list[:1]), slices.Concat(back, list), slices.Concat(back, list, back)} {
+				if got, e := Normal(api.Type{Kind: kind, Args: args}); e != api.OK || !same(got, want) {
+					t.Errorf("Normal with %d Args of which %d are different = %s, %v", len(args), n, words(got), e)
+				}
+			}
+		}
+	}
 }
 
 // TestOrderOfParts checks that neither the order of the Args of a TAnd or TOr matters, nor whether they stand twice.
